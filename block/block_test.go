@@ -1,0 +1,80 @@
+package block
+
+import (
+	"slices"
+	"testing"
+)
+
+func TestSetHasWhatItWasGiven(t *testing.T) {
+	var set Set
+	want := []int{0, 1, 63, 64, 79}
+	for _, n := range []int{79, 64, 0, 63, 1, 64} {
+		set = set.With(n)
+	}
+	if got := set.List(); !slices.Equal(got, want) {
+		t.Errorf("List() = %v, want %v", got, want)
+	}
+	for n := range 80 {
+		if set.Has(n) != slices.Contains(want, n) {
+			t.Errorf("Has(%d) = %v", n, set.Has(n))
+		}
+	}
+}
+
+func TestSetIsAValue(t *testing.T) {
+	var empty Set
+	one := empty.With(70)
+	if empty.Has(70) || empty == one {
+		t.Errorf("With changed the set that it was asked of")
+	}
+	if empty.With(3).With(70) != one.With(3) {
+		t.Errorf("sets of the same blocks differ")
+	}
+}
+
+func TestCount(t *testing.T) {
+	for _, c := range []struct{ length, size, want int }{
+		{0, 1, 0}, {0, 16, 0}, {1, 1, 1}, {1, 16, 1}, {16, 16, 1}, {17, 16, 2}, {400, 5, 80}, {400, 16, 25},
+	} {
+		if got := Count(c.length, c.size); got != c.want {
+			t.Errorf("Count(%d, %d) = %d, want %d", c.length, c.size, got, c.want)
+		}
+	}
+}
+
+func TestFit(t *testing.T) {
+	for _, c := range []struct {
+		length, size int
+		want         bool
+	}{
+		{1, 1, true}, {1, 16, true}, {80, 1, true}, {160, 2, true}, {400, 5, true},
+		{0, 1, false}, {-1, 1, false}, {401, 16, false}, {1, 0, false}, {1, -1, false}, {1, 17, false}, {81, 1, false}, {161, 2, false}, {400, 4, false},
+	} {
+		if got := Fit(c.length, c.size); got != c.want {
+			t.Errorf("Fit(%d, %d) = %v", c.length, c.size, got)
+		}
+	}
+}
+
+func TestMix(t *testing.T) {
+	text := "abcdefgh"
+	for _, c := range []struct {
+		blocks []int
+		want   string
+	}{
+		{nil, "\x00\x00\x00"},
+		{[]int{0}, "abc"},
+		{[]int{2}, "gh\x00"},
+		{[]int{0, 1}, "\x05\x07\x05"},
+		{[]int{1, 2}, "\x03\x0df"},
+		{[]int{0, 1, 2}, "bo\x05"},
+	} {
+		var set Set
+		for _, n := range c.blocks {
+			set = set.With(n)
+		}
+		if got := string(Mix(text, 3, set)); got != c.want {
+			t.Errorf("Mix of %v = %q, want %q", c.blocks, got, c.want)
+		}
+	}
+}
