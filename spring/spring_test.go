@@ -17,7 +17,8 @@ const (
 	maxId     = 65535
 )
 
-// textOf answers a text of that many bytes in which no two blocks are alike.
+// textOf answers a text of that many mixed bytes, so that a wrong block or a
+// wrong place in it shows in the data.
 func textOf(length int) string {
 	bytes := make([]byte, length)
 	x := uint32(length + 1)
