@@ -78,3 +78,82 @@ func TestMix(t *testing.T) {
 		}
 	}
 }
+
+func setOf(blocks ...int) Set {
+	var set Set
+	for _, n := range blocks {
+		set = set.With(n)
+	}
+	return set
+}
+
+func TestSetAndXor(t *testing.T) {
+	a, b := setOf(0, 5, 63, 64, 79), setOf(5, 6, 64, 70)
+	if got := a.And(b); got != setOf(5, 64) {
+		t.Errorf("And: %v", got.List())
+	}
+	if got := a.Xor(b); got != setOf(0, 6, 63, 70, 79) {
+		t.Errorf("Xor: %v", got.List())
+	}
+	if a != setOf(0, 5, 63, 64, 79) || b != setOf(5, 6, 64, 70) {
+		t.Errorf("And or Xor changed a set: %v, %v", a.List(), b.List())
+	}
+	if a.Xor(a) != (Set{}) {
+		t.Errorf("a set and itself are not nothing")
+	}
+}
+
+func TestSetFirst(t *testing.T) {
+	for n := range 80 {
+		if got, ok := One(n).First(); got != n || !ok {
+			t.Errorf("First of block %d = %d, %v", n, got, ok)
+		}
+		if got, ok := One(n).With(79).First(); got != n || !ok {
+			t.Errorf("First of blocks %d and 79 = %d, %v", n, got, ok)
+		}
+	}
+	if n, ok := (Set{}).First(); ok {
+		t.Errorf("First of no blocks = %d", n)
+	}
+}
+
+func TestData(t *testing.T) {
+	a, b := DataOf("hello"), DataOf("0123456789abcdef")
+	if want := (Data{'h', 'e', 'l', 'l', 'o'}); a != want {
+		t.Errorf("DataOf = %v", a)
+	}
+	if want := DataOf("XT^_[56789abcdef"); a.Xor(b) != want {
+		t.Errorf("Xor = %q", a.Xor(b))
+	}
+	if a.Xor(a) != (Data{}) || a.Xor(b).Xor(b) != a {
+		t.Errorf("Xor does not undo itself")
+	}
+}
+
+func TestStray(t *testing.T) {
+	for _, c := range []struct {
+		length, size int
+		set          Set
+		data         string
+		at           int
+		want         bool
+	}{
+		{12, 5, setOf(2), "ld\x00\x00\x00", 0, false},
+		{12, 5, setOf(2), "ld\x00x\x00", 3, true},
+		{12, 5, setOf(2), "ldyxz", 2, true},
+		{12, 5, setOf(2), "ld\x00\x00x", 4, true},
+		{12, 5, setOf(1), "ldyxz", 0, false},
+		{12, 5, setOf(1, 2), "ldyxz", 0, false},
+		{15, 5, setOf(2), "ldyxz", 0, false},
+		{1, 16, setOf(0), "a", 0, false},
+		{1, 16, setOf(0), "a\x00\x00\x00\x00\x00\x00\x00\x00\x00\x00\x00\x00\x00\x00x", 15, true},
+		{400, 5, setOf(79), "abcde", 0, false},
+		{399, 5, setOf(79), "abcde", 4, true},
+		{399, 5, setOf(79, 0), "abcde", 0, false},
+	} {
+		at, got := Stray(c.length, c.size, c.set, DataOf(c.data))
+		if at != c.at || got != c.want {
+			t.Errorf("Stray(%d, %d, %v, %q) = %d, %v", c.length, c.size, c.set.List(), c.data, at, got)
+		}
+	}
+}

@@ -1,6 +1,10 @@
 package block
 
-import "spring/limit"
+import (
+	"math/bits"
+
+	"spring/limit"
+)
 
 const (
 	wordBits = 64
@@ -11,6 +15,11 @@ const (
 // sets can be compared by == and a set can be the key of a map.
 type Set [words]uint64
 
+// One answers the set of block n, from 0 to MaxBlocks - 1, alone.
+func One(n int) Set {
+	return Set{}.With(n)
+}
+
 // Has tells whether block n, from 0 to MaxBlocks - 1, is in the set.
 func (s Set) Has(n int) bool {
 	return s[n/wordBits]>>(n%wordBits)&1 == 1
@@ -20,6 +29,32 @@ func (s Set) Has(n int) bool {
 func (s Set) With(n int) Set {
 	s[n/wordBits] |= 1 << (n % wordBits)
 	return s
+}
+
+// And answers the blocks that both sets have.
+func (s Set) And(other Set) Set {
+	for i, word := range other {
+		s[i] &= word
+	}
+	return s
+}
+
+// Xor answers the blocks that one of the sets has, but not both.
+func (s Set) Xor(other Set) Set {
+	for i, word := range other {
+		s[i] ^= word
+	}
+	return s
+}
+
+// First answers the least of the set's blocks, and whether it has any.
+func (s Set) First() (int, bool) {
+	for i, word := range s {
+		if word != 0 {
+			return i*wordBits + bits.TrailingZeros64(word), true
+		}
+	}
+	return 0, false
 }
 
 // List answers the numbers of the set's blocks, rising.

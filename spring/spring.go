@@ -2,9 +2,13 @@
 package spring
 
 import (
+	"errors"
+
 	"spring/block"
 	"spring/draw"
+	"spring/gather"
 	"spring/limit"
+	"spring/pool"
 	"spring/wire"
 )
 
@@ -62,12 +66,43 @@ func isId(id int) bool {
 	return id >= 0 && id <= limit.MaxId
 }
 
-// Read reads a drop (P5). It is not built yet and answers zero values.
-func Read(drop string) (Drop, Errno, int) { return Drop{}, OK, 0 }
+// Read reads a drop (P5).
+func Read(drop string) (Drop, Errno, int) {
+	parts, err := wire.Read(drop)
+	if err != nil {
+		e, place := tell(err)
+		return Drop{}, e, place
+	}
+	return Drop{Id: parts.Id, Len: parts.Length, Size: parts.Size, Data: parts.Data}, OK, 0
+}
 
-// Catch tells what is certain (P6). It is not built yet and answers zero
-// values.
-func Catch(drops []string) (Found, Errno, int) { return Found{}, OK, 0 }
+// Catch tells what is certain (P6).
+func Catch(drops []string) (Found, Errno, int) {
+	basin, err := gather.Drops(drops)
+	if err != nil {
+		e, number := tell(err)
+		return Found{}, e, number
+	}
+	sure, text := basin.Certain()
+	return Found{Len: basin.Length(), Size: basin.Size(), Sure: sure, Text: text, Drops: basin.Drops}, OK, 0
+}
+
+// tell answers what to say of an error, and the number that goes with it.
+func tell(err error) (Errno, int) {
+	var broken wire.Fault
+	var contrary gather.Fault
+	switch {
+	case errors.As(err, &broken):
+		return ErrDrop, broken.Place
+	case errors.Is(err, pool.ErrContrary) && errors.As(err, &contrary):
+		return ErrParts, contrary.Number
+	case errors.Is(err, gather.ErrMany):
+		return ErrLong, 0
+	case errors.Is(err, gather.ErrNone):
+		return ErrNone, 0
+	}
+	return OK, 0
+}
 
 // Twin shows that a block is not (P7). It is not built yet and answers zero
 // values.

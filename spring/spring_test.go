@@ -14,6 +14,7 @@ const (
 	maxText   = 400
 	maxSize   = 16
 	maxBlocks = 80
+	maxDrops  = 120
 	maxId     = 65535
 )
 

@@ -1,4 +1,4 @@
-// Package wire lays a drop out as bytes.
+// Package wire lays a drop out as bytes, and reads it again.
 package wire
 
 const (
