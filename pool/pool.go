@@ -97,7 +97,8 @@ beginning:
 }
 
 // setLead gives a row its lead, and tells whether it is a new one. A row of
-// no blocks tells nothing and stays without.
+// no blocks tells nothing and stays without. The lead is the row's least block
+// and stays so: what is mixed in later has none but greater ones.
 func (p *Pool) setLead(i int) bool {
 	n, ok := p.rows[i].blocks.First()
 	if !ok || p.rows[i].lead != (block.Set{}) {

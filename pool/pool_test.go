@@ -76,7 +76,7 @@ func TestContrary(t *testing.T) {
 }
 
 // No row has a block that another one leads: by that a block that is certain
-// is a row by itself.
+// is a row by itself. Twins hang on it, too, and on a lead being the least.
 func TestRowsAreApart(t *testing.T) {
 	text := "the blocks of this text are one byte each, and each fact has up to three of them"
 	p := New(80, 1)
@@ -88,6 +88,9 @@ func TestRowsAreApart(t *testing.T) {
 		for i, r := range p.rows {
 			if r.blocks.And(p.leads) != r.lead {
 				t.Fatalf("after %d facts row %d has the leads %v", n+1, i, r.blocks.And(p.leads).List())
+			}
+			if first, ok := r.blocks.First(); ok && r.lead != block.One(first) {
+				t.Fatalf("after %d facts row %d is led by %v, its least block is %d", n+1, i, r.lead.List(), first)
 			}
 		}
 	}

@@ -87,6 +87,22 @@ func Catch(drops []string) (Found, Errno, int) {
 	return Found{Len: basin.Length(), Size: basin.Size(), Sure: sure, Text: text, Drops: basin.Drops}, OK, 0
 }
 
+// Twin shows two texts that the drops fit alike, by which a block is seen not
+// to be certain (P7).
+func Twin(drops []string, block int) (string, string, Errno) {
+	basin, err := gather.Drops(drops)
+	if err != nil {
+		e, _ := tell(err)
+		return "", "", e
+	}
+	one, other, err := basin.Twins(block)
+	if err != nil {
+		e, _ := tell(err)
+		return "", "", e
+	}
+	return one, other, OK
+}
+
 // tell answers what to say of an error, and the number that goes with it.
 func tell(err error) (Errno, int) {
 	var broken wire.Fault
@@ -100,10 +116,10 @@ func tell(err error) (Errno, int) {
 		return ErrLong, 0
 	case errors.Is(err, gather.ErrNone):
 		return ErrNone, 0
+	case errors.Is(err, pool.ErrNoBlock):
+		return ErrRange, 0
+	case errors.Is(err, pool.ErrCertain):
+		return ErrSure, 0
 	}
 	return OK, 0
 }
-
-// Twin shows that a block is not (P7). It is not built yet and answers zero
-// values.
-func Twin(drops []string, block int) (string, string, Errno) { return "", "", OK }
